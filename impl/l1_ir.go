@@ -187,6 +187,21 @@ func (t *Term) used() []*int64 {
 	return chosen([]bool{form.a, form.to, form.other}, &t.A, &t.To, &t.Else)
 }
 
+// reads gives the values or registers that the instruction reads: A, then B.
+func (in *Instr) reads() []int64 {
+	form := opForms[in.Op]
+	return contents(chosen([]bool{form.a, form.b}, &in.A, &in.B))
+}
+
+// writes gives the one that the instruction defines, if it does.
+func (in *Instr) writes() []int64 {
+	return contents(chosen([]bool{opForms[in.Op].dst}, &in.Dst))
+}
+
+func (t *Term) reads() []int64 {
+	return contents(chosen([]bool{termForms[t.Kind].a}, &t.A))
+}
+
 func chosen(keep []bool, fields ...*int64) []*int64 {
 	out := []*int64{}
 	for i, field := range fields {
