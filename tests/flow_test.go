@@ -104,8 +104,7 @@ func allEnds(n int64) []impl.Term {
 func TestFlowAllSmall(t *testing.T) {
 	for n := 1; n <= 4; n++ {
 		ends := allEnds(int64(n))
-		pick := make([]int, n)
-		for {
+		eachList(n, 0, int64(len(ends)-1), func(pick []int64) {
 			f := impl.Func{Values: 1, Blocks: make([]impl.Block, n)}
 			f.Blocks[0].Instrs = []impl.Instr{{Op: impl.OpArg}}
 			for b := range f.Blocks {
@@ -116,16 +115,7 @@ func TestFlowAllSmall(t *testing.T) {
 			if got, want := impl.Verdict(f), oracleVerdict(f, d); got != want {
 				t.Fatalf("%s\nverdict %d, want %d", impl.EncodeFunc(f), got, want)
 			}
-			at := 0
-			for at < n && pick[at] == len(ends)-1 {
-				pick[at] = 0
-				at++
-			}
-			if at == n {
-				break
-			}
-			pick[at]++
-		}
+		})
 	}
 }
 

@@ -134,3 +134,20 @@ func numberValues(d *dice, f *impl.Func) {
 		*use = int64(d.roll(len(places)))
 	}
 }
+
+// eachList: all lists of n numbers from low to high.
+func eachList(n int, low int64, high int64, do func(list []int64)) {
+	list := slices.Repeat([]int64{low}, n)
+	for {
+		do(slices.Clone(list))
+		at := 0
+		for at < n && list[at] == high {
+			list[at] = low
+			at++
+		}
+		if at == n {
+			return
+		}
+		list[at]++
+	}
+}
