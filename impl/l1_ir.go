@@ -117,10 +117,7 @@ func EncodeFunc(f Func) []byte {
 		for _, p := range b.Phis {
 			out = appendLine(out, "phi", slices.Insert(slices.Clone(p.Args), 0, p.Dst)...)
 		}
-		for _, in := range b.Instrs {
-			out = appendInstr(out, in)
-		}
-		out = appendTerm(out, b.Term)
+		out = appendCode(out, b.Instrs, b.Term)
 	}
 	return out
 }
@@ -130,14 +127,14 @@ func RunFunc(f Func, args []int64, heap []int64, fuel int64) Outcome {
 	if !ValidFunc(f) || !validRun(args, heap, fuel) {
 		return Outcome{Code: OutBad}
 	}
-	r := funcRun{runState: newRunState(args, heap, fuel), values: make([]int64, f.Values)}
-	r.makeNodes(f)
-	code := r.run()
-	return r.outcome(code)
+	r := funcRun{runState: newRunState(args, heap, fuel, f.Values), f: f, preds: predecessors(f)}
+	r.makeNodes()
+	return r.run()
 }
 
 // opForm tells which fields an instruction uses. In the text its numbers stand
-// in the order Dst, A, B, Imm.
+// in the order Dst, A, B, Imm. The copies, of which functions have none, stand
+// beside the others so that one rule writes them all.
 type opForm struct {
 	word string
 	dst  bool
@@ -157,6 +154,9 @@ var opForms = [...]opForm{
 	OpLoad:  {word: "load", dst: true, a: true},
 	OpStore: {word: "store", a: true, b: true},
 	OpOut:   {word: "out", a: true},
+	OpMove:  {word: "move", dst: true, a: true},
+	OpPut:   {word: "put", a: true},
+	OpGet:   {word: "get", dst: true},
 }
 
 // termForm tells which fields the end of a block uses. In the text its numbers
@@ -187,6 +187,16 @@ func (t *Term) used() []*int64 {
 	return chosen([]bool{form.a, form.to, form.other}, &t.A, &t.To, &t.Else)
 }
 
+// cells gives the fields that hold a value or a register.
+func (in *Instr) cells() []*int64 {
+	form := opForms[in.Op]
+	return chosen([]bool{form.dst, form.a, form.b}, &in.Dst, &in.A, &in.B)
+}
+
+func (t *Term) cells() []*int64 {
+	return chosen([]bool{termForms[t.Kind].a}, &t.A)
+}
+
 // reads gives the values or registers that the instruction reads: A, then B.
 func (in *Instr) reads() []int64 {
 	form := opForms[in.Op]
@@ -198,9 +208,7 @@ func (in *Instr) writes() []int64 {
 	return contents(chosen([]bool{opForms[in.Op].dst}, &in.Dst))
 }
 
-func (t *Term) reads() []int64 {
-	return contents(chosen([]bool{termForms[t.Kind].a}, &t.A))
-}
+func (t *Term) reads() []int64 { return contents(t.cells()) }
 
 func chosen(keep []bool, fields ...*int64) []*int64 {
 	out := []*int64{}
@@ -607,11 +615,11 @@ func appendLine(out []byte, word string, numbers ...int64) []byte {
 	return append(out, '\n')
 }
 
-func appendInstr(out []byte, in Instr) []byte {
-	return appendLine(out, opForms[in.Op].word, contents(in.used())...)
-}
-
-func appendTerm(out []byte, t Term) []byte {
+// appendCode writes the instructions of a block and its end.
+func appendCode(out []byte, instrs []Instr, t Term) []byte {
+	for _, in := range instrs {
+		out = appendLine(out, opForms[in.Op].word, contents(in.used())...)
+	}
 	return appendLine(out, termForms[t.Kind].word, contents(t.used())...)
 }
 
@@ -652,6 +660,11 @@ type outNode struct {
 	a int64
 }
 
+type copyNode struct {
+	dst  int64
+	from int64
+}
+
 type endNode struct {
 	kind  int64
 	a     int64
@@ -663,6 +676,7 @@ func (constNode) isNode() {}
 func (arithNode) isNode() {}
 func (heapNode) isNode()  {}
 func (outNode) isNode()   {}
+func (copyNode) isNode()  {}
 func (endNode) isNode()   {}
 
 // edge is a way from one block to another, with what the phis there take.
@@ -676,18 +690,6 @@ type phiTake struct {
 	from int64
 }
 
-func makeEnd(f Func, preds [][]int64, b int64) endNode {
-	t := f.Blocks[b].Term
-	end := endNode{kind: t.Kind, a: t.A}
-	if termForms[t.Kind].to {
-		end.to = makeEdge(f, preds, b, t.To)
-	}
-	if termForms[t.Kind].other {
-		end.other = makeEdge(f, preds, b, t.Else)
-	}
-	return end
-}
-
 func makeEdge(f Func, preds [][]int64, from int64, to int64) edge {
 	e := edge{to: to}
 	i := slices.Index(preds[to], from)
@@ -697,22 +699,29 @@ func makeEdge(f Func, preds [][]int64, from int64, to int64) edge {
 	return e
 }
 
-// runState is what a run has beside its cells and its code.
+// runState is what every run has. Its cells are the values of a function or the
+// registers of a machine program; at is the place in the block, and taken the
+// room in which the phis of a block are read before any of them is written.
 type runState struct {
-	args  []int64
-	heap  []int64
-	trace []int64
-	fuel  int64
-	steps int64
-	value int64
+	args   []int64
+	heap   []int64
+	trace  []int64
+	fuel   int64
+	steps  int64
+	value  int64
+	cells  []int64
+	blocks [][]node
+	block  int64
+	at     int64
+	taken  []int64
 }
 
 func validRun(args []int64, heap []int64, fuel int64) bool {
 	return len(args) <= MaxArgs && len(heap) <= HeapSize && fuel >= 0 && fuel <= MaxFuel
 }
 
-func newRunState(args []int64, heap []int64, fuel int64) runState {
-	s := runState{args: args, heap: make([]int64, HeapSize), fuel: fuel}
+func newRunState(args []int64, heap []int64, fuel int64, cells int64) runState {
+	s := runState{args: args, heap: make([]int64, HeapSize), fuel: fuel, cells: make([]int64, cells)}
 	copy(s.heap, heap)
 	return s
 }
@@ -744,89 +753,97 @@ func (s *runState) instrNode(in Instr) node {
 	}
 }
 
-// funcRun is a run of a function: at is the place in the block, and taken the
-// room in which the phis of a block are read before any of them is written.
-type funcRun struct {
-	runState
-	values []int64
-	blocks [][]node
-	block  int64
-	at     int64
-	taken  []int64
+func (s *runState) run() Outcome {
+	for s.steps < s.fuel {
+		n := s.blocks[s.block][s.at]
+		s.steps++
+		s.at++
+		if code := s.step(n); code != 0 {
+			return s.outcome(code)
+		}
+	}
+	return s.outcome(OutFuel)
 }
 
-func (r *funcRun) makeNodes(f Func) {
-	preds := predecessors(f)
-	r.blocks = make([][]node, len(f.Blocks))
-	for b, block := range f.Blocks {
+// step answers the code with which the run stops here, or 0.
+func (s *runState) step(n node) int64 {
+	switch n := n.(type) {
+	case constNode:
+		s.cells[n.dst] = n.value
+	case arithNode:
+		if n.op == OpDiv && s.cells[n.b] == 0 {
+			return OutTrap
+		}
+		s.cells[n.dst] = arith(n.op, s.cells[n.a], s.cells[n.b])
+	case heapNode:
+		cell := &s.heap[heapCell(s.cells[n.a])]
+		if n.op == OpStore {
+			*cell = s.cells[n.b]
+		} else {
+			s.cells[n.dst] = *cell
+		}
+	case outNode:
+		s.trace = append(s.trace, s.cells[n.a])
+	case copyNode:
+		s.cells[n.dst] = s.cells[n.from]
+	case endNode:
+		return s.end(n)
+	}
+	return 0
+}
+
+func (s *runState) end(n endNode) int64 {
+	switch {
+	case n.kind == TermRet:
+		s.value = s.cells[n.a]
+		return OutReturn
+	case n.kind == TermBranch && s.cells[n.a] == 0:
+		s.follow(n.other)
+	default:
+		s.follow(n.to)
+	}
+	return 0
+}
+
+func (s *runState) follow(e edge) {
+	s.taken = s.taken[:0]
+	for _, t := range e.takes {
+		s.taken = append(s.taken, s.cells[t.from])
+	}
+	for i, t := range e.takes {
+		s.cells[t.dst] = s.taken[i]
+	}
+	s.block = e.to
+	s.at = 0
+}
+
+// funcRun is a run of a function.
+type funcRun struct {
+	runState
+	f     Func
+	preds [][]int64
+}
+
+func (r *funcRun) makeNodes() {
+	for b, block := range r.f.Blocks {
 		nodes := []node{}
 		for _, in := range block.Instrs {
 			nodes = append(nodes, r.instrNode(in))
 		}
-		r.blocks[b] = append(nodes, makeEnd(f, preds, int64(b)))
+		r.blocks = append(r.blocks, append(nodes, r.endNode(int64(b))))
 	}
 }
 
-func (r *funcRun) run() int64 {
-	for r.steps < r.fuel {
-		n := r.blocks[r.block][r.at]
-		r.steps++
-		r.at++
-		if code := r.step(n); code != 0 {
-			return code
-		}
+func (r *funcRun) endNode(b int64) node {
+	t := r.f.Blocks[b].Term
+	end := endNode{kind: t.Kind, a: t.A}
+	if termForms[t.Kind].to {
+		end.to = makeEdge(r.f, r.preds, b, t.To)
 	}
-	return OutFuel
-}
-
-// step answers the code with which the run stops here, or 0.
-func (r *funcRun) step(n node) int64 {
-	switch n := n.(type) {
-	case constNode:
-		r.values[n.dst] = n.value
-	case arithNode:
-		if n.op == OpDiv && r.values[n.b] == 0 {
-			return OutTrap
-		}
-		r.values[n.dst] = arith(n.op, r.values[n.a], r.values[n.b])
-	case heapNode:
-		cell := &r.heap[heapCell(r.values[n.a])]
-		if n.op == OpStore {
-			*cell = r.values[n.b]
-		} else {
-			r.values[n.dst] = *cell
-		}
-	case outNode:
-		r.trace = append(r.trace, r.values[n.a])
-	case endNode:
-		return r.end(n)
+	if termForms[t.Kind].other {
+		end.other = makeEdge(r.f, r.preds, b, t.Else)
 	}
-	return 0
-}
-
-func (r *funcRun) end(n endNode) int64 {
-	switch {
-	case n.kind == TermRet:
-		r.value = r.values[n.a]
-		return OutReturn
-	case n.kind == TermBranch && r.values[n.a] == 0:
-		r.follow(n.other)
-	default:
-		r.follow(n.to)
-	}
-	return 0
-}
-
-func (r *funcRun) follow(e edge) {
-	r.taken = r.taken[:0]
-	for _, t := range e.takes {
-		r.taken = append(r.taken, r.values[t.from])
-	}
-	for i, t := range e.takes {
-		r.values[t.dst] = r.taken[i]
-	}
-	r.block = e.to
-	r.at = 0
+	return end
 }
 
 // arith needs a divisor that is not 0.

@@ -1,6 +1,7 @@
 package tests
 
 import (
+	"math"
 	"slices"
 	"testing"
 
@@ -133,6 +134,19 @@ func numberValues(d *dice, f *impl.Func) {
 	for _, use := range uses {
 		*use = int64(d.roll(len(places)))
 	}
+}
+
+// rollRun makes arguments, a heap and fuel within the limits.
+func rollRun(d *dice) ([]int64, []int64, int64) {
+	numbers := []int64{0, 1, -1, 2, 3, 5, 31, 32, -33, math.MaxInt64, math.MinInt64}
+	args := make([]int64, d.roll(impl.MaxArgs+1))
+	heap := make([]int64, d.roll(impl.HeapSize+1))
+	for _, list := range [][]int64{args, heap} {
+		for i := range list {
+			list[i] = numbers[d.roll(len(numbers))]
+		}
+	}
+	return args, heap, int64(d.roll(60))
 }
 
 // eachList: all lists of n numbers from low to high.

@@ -1,6 +1,7 @@
 package tests
 
 import (
+	"maps"
 	"math/big"
 	"regexp"
 	"strconv"
@@ -149,10 +150,26 @@ func fieldsOfOp(op int64) string {
 		return "da"
 	case 9:
 		return "ab"
-	case 10:
+	case 10, 12:
 		return "a"
+	case 11:
+		return "da"
+	case 13:
+		return "d"
 	}
 	return ""
+}
+
+// oracleInstr asks of one instruction that its fields are cells as far as they are used, and 0 if they are not.
+func oracleInstr(in impl.Instr, isCell func(int64) bool) bool {
+	used := fieldsOfOp(in.Op)
+	good := used != ""
+	for letter, x := range map[string]int64{"d": in.Dst, "a": in.A, "b": in.B} {
+		good = good && (strings.Contains(used, letter) && isCell(x) || !strings.Contains(used, letter) && x == 0)
+	}
+	good = good && (strings.Contains(used, "i") || in.Imm == 0)
+	good = good && (in.Op != 1 || in.Imm >= -1000000000 && in.Imm <= 1000000000)
+	return good && (in.Op != 2 || in.Imm >= 0 && in.Imm <= 7)
 }
 
 func oracleValid(f impl.Func) bool {
@@ -178,19 +195,13 @@ func oracleValid(f impl.Func) bool {
 		}
 		for _, in := range block.Instrs {
 			size++
-			used := fieldsOfOp(in.Op)
-			must(used != "")
-			for letter, x := range map[string]int64{"d": in.Dst, "a": in.A, "b": in.B} {
-				must(strings.Contains(used, letter) && isValue(x) || !strings.Contains(used, letter) && x == 0)
-			}
-			must(strings.Contains(used, "i") || in.Imm == 0)
-			must(in.Op != 1 || in.Imm >= -1000000000 && in.Imm <= 1000000000)
-			must(in.Op != 2 || in.Imm >= 0 && in.Imm <= 7)
-			if strings.Contains(used, "d") {
+			must(in.Op <= 10 && oracleInstr(in, isValue))
+			if strings.Contains(fieldsOfOp(in.Op), "d") {
 				defined[in.Dst]++
 			}
 		}
-		must(oracleTerm(block.Term, n, isValue))
+		must(oracleTerm(block.Term, isValue, func(b int64) bool { return 0 < b && b < n }))
+		must(block.Term.Kind != 2 || block.Term.To != block.Term.Else)
 	}
 	for v := int64(0); v < f.Values; v++ {
 		must(defined[v] == 1)
@@ -198,15 +209,14 @@ func oracleValid(f impl.Func) bool {
 	return good && size <= 4000
 }
 
-func oracleTerm(t impl.Term, n int64, isValue func(int64) bool) bool {
-	isTarget := func(x int64) bool { return 0 < x && x < n }
+func oracleTerm(t impl.Term, isCell func(int64) bool, isTarget func(int64) bool) bool {
 	switch t.Kind {
 	case 1:
 		return t.A == 0 && isTarget(t.To) && t.Else == 0
 	case 2:
-		return isValue(t.A) && isTarget(t.To) && isTarget(t.Else) && t.To != t.Else
+		return isCell(t.A) && isTarget(t.To) && isTarget(t.Else)
 	case 3:
-		return isValue(t.A) && t.To == 0 && t.Else == 0
+		return isCell(t.A) && t.To == 0 && t.Else == 0
 	}
 	return false
 }
@@ -249,62 +259,99 @@ func oracleCell(x int64) int64 {
 	return new(big.Int).Mod(big.NewInt(x), big.NewInt(32)).Int64()
 }
 
+// oracleState is a run of a function or of a machine program; cell -1 is the scratch.
+type oracleState struct {
+	out   impl.Outcome
+	cells map[int64]int64
+	args  []int64
+	fuel  int64
+}
+
+func newOracleState(args []int64, heap []int64, fuel int64) *oracleState {
+	s := &oracleState{cells: map[int64]int64{}, args: append(append([]int64{}, args...), make([]int64, 8)...), fuel: fuel}
+	s.out.Heap = append(append([]int64{}, heap...), make([]int64, 32-len(heap))...)
+	return s
+}
+
+// pay tells whether the run has stopped because there is no fuel for one step more.
+func (s *oracleState) pay() bool {
+	if s.out.Steps == s.fuel {
+		s.out.Code = impl.OutFuel
+		return true
+	}
+	s.out.Steps++
+	return false
+}
+
+// instrs tells whether the run has stopped inside a block.
+func (s *oracleState) instrs(list []impl.Instr) bool {
+	for _, in := range list {
+		if s.pay() {
+			return true
+		}
+		a, b := s.cells[in.A], s.cells[in.B]
+		switch {
+		case in.Op == 1:
+			s.cells[in.Dst] = in.Imm
+		case in.Op == 2:
+			s.cells[in.Dst] = s.args[in.Imm]
+		case in.Op == 6 && b == 0:
+			s.out.Code = impl.OutTrap
+			return true
+		case in.Op <= 7:
+			s.cells[in.Dst] = oracleArith(in.Op, a, b)
+		case in.Op == 8:
+			s.cells[in.Dst] = s.out.Heap[oracleCell(a)]
+		case in.Op == 9:
+			s.out.Heap[oracleCell(a)] = b
+		case in.Op == 10:
+			s.out.Trace = append(s.out.Trace, a)
+		case in.Op == 11:
+			s.cells[in.Dst] = a
+		case in.Op == 12:
+			s.cells[-1] = a
+		case in.Op == 13:
+			s.cells[in.Dst] = s.cells[-1]
+		}
+	}
+	return false
+}
+
+// end gives the block to which the run goes, -1 if it has stopped.
+func (s *oracleState) end(t impl.Term) int64 {
+	if s.pay() {
+		return -1
+	}
+	if t.Kind == 3 {
+		s.out.Code, s.out.Value = impl.OutReturn, s.cells[t.A]
+		return -1
+	}
+	if t.Kind == 2 && s.cells[t.A] == 0 {
+		return t.Else
+	}
+	return t.To
+}
+
 // oracleRun is for valid functions and runs within the limits.
 func oracleRun(f impl.Func, args []int64, heap []int64, fuel int64) impl.Outcome {
-	o := impl.Outcome{Heap: make([]int64, 32)}
-	copy(o.Heap, heap)
-	values := map[int64]int64{}
+	s := newOracleState(args, heap, fuel)
 	at := int64(0)
 	for {
-		for _, in := range f.Blocks[at].Instrs {
-			if o.Steps == fuel {
-				o.Code = impl.OutFuel
-				return o
-			}
-			o.Steps++
-			switch {
-			case in.Op == 1:
-				values[in.Dst] = in.Imm
-			case in.Op == 2:
-				values[in.Dst] = append(append([]int64{}, args...), make([]int64, 8)...)[in.Imm]
-			case in.Op == 6 && values[in.B] == 0:
-				o.Code = impl.OutTrap
-				return o
-			case in.Op <= 7:
-				values[in.Dst] = oracleArith(in.Op, values[in.A], values[in.B])
-			case in.Op == 8:
-				values[in.Dst] = o.Heap[oracleCell(values[in.A])]
-			case in.Op == 9:
-				o.Heap[oracleCell(values[in.A])] = values[in.B]
-			case in.Op == 10:
-				o.Trace = append(o.Trace, values[in.A])
-			}
+		if s.instrs(f.Blocks[at].Instrs) {
+			return s.out
 		}
-		if o.Steps == fuel {
-			o.Code = impl.OutFuel
-			return o
+		next := s.end(f.Blocks[at].Term)
+		if next < 0 {
+			return s.out
 		}
-		o.Steps++
-		t := f.Blocks[at].Term
-		if t.Kind == 3 {
-			o.Code, o.Value = impl.OutReturn, values[t.A]
-			return o
-		}
-		next := t.To
-		if t.Kind == 2 && values[t.A] == 0 {
-			next = t.Else
-		}
-		after := map[int64]int64{}
-		for v, x := range values {
-			after[v] = x
-		}
+		after := maps.Clone(s.cells)
 		for i, p := range oraclePreds(f, next) {
 			for _, phi := range f.Blocks[next].Phis {
 				if p == at {
-					after[phi.Dst] = values[phi.Args[i]]
+					after[phi.Dst] = s.cells[phi.Args[i]]
 				}
 			}
 		}
-		values, at = after, next
+		s.cells, at = after, next
 	}
 }

@@ -225,18 +225,9 @@ func TestRunValuesStay(t *testing.T) {
 func TestRunAgainstOracle(t *testing.T) {
 	d := dice(5)
 	seen := map[int64]int{}
-	numbers := []int64{0, 1, -1, 2, 3, 5, 31, 32, -33, math.MaxInt64, math.MinInt64}
 	for range 20000 {
 		f := rollFunc(&d)
-		args := make([]int64, d.roll(impl.MaxArgs+1))
-		heap := make([]int64, d.roll(impl.HeapSize+1))
-		for i := range args {
-			args[i] = numbers[d.roll(len(numbers))]
-		}
-		for i := range heap {
-			heap[i] = numbers[d.roll(len(numbers))]
-		}
-		fuel := int64(d.roll(60))
+		args, heap, fuel := rollRun(&d)
 		keptArgs, keptHeap, keptFunc := slices.Clone(args), slices.Clone(heap), cloneFunc(f)
 		o := impl.RunFunc(f, args, heap, fuel)
 		want := oracleRun(f, args, heap, fuel)
